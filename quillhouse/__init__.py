@@ -1,0 +1,1 @@
+"""Quillhouse: pages with a log, which come up right wherever the quill stopped."""
