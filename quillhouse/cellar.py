@@ -1,14 +1,22 @@
 """The cellar: its pages and its log, and what the quill's strokes make of them."""
 
 
-def behind(pages, log, strokes):
-    pages_then = list(pages)
-    log_then = list(log)
-    for stroke in strokes:
+class Cellar:
+    def __init__(self, pages, log):
+        self.pages = list(pages)
+        self.log = list(log)
+
+    def do_stroke(self, stroke):
         if stroke[0] == "line":
-            log_then.append(stroke[1])
+            self.log.append(stroke[1])
         elif stroke[0] == "page":
-            pages_then[stroke[1]] = stroke[2]
+            self.pages[stroke[1]] = stroke[2]
         elif stroke[0] == "cut":
-            log_then = log_then[stroke[1]:]
-    return (pages_then, log_then)
+            self.log = self.log[stroke[1]:]
+
+
+def behind(pages, log, strokes):
+    cellar = Cellar(pages, log)
+    for stroke in strokes:
+        cellar.do_stroke(stroke)
+    return (cellar.pages, cellar.log)

@@ -4,9 +4,9 @@ import inspect
 import itertools
 import unittest
 
+from helper import BIG
 from quillhouse.cellar import behind
 
-BIG = 10 ** 32 - 1
 PUT_A = ("put", 0, 0, 5, 6)
 PUT_B = ("put", 1, 1, 7, 8)
 PUT_C = ("put", 1, 0, 6, 9)

@@ -4,9 +4,8 @@ import inspect
 import itertools
 import unittest
 
+from helper import BIG, is_needed
 from quillhouse.lines import needed_from
-
-BIG = 10 ** 32 - 1
 
 
 def put(dealing, page):
@@ -15,14 +14,6 @@ def put(dealing, page):
 
 def end(dealing):
     return ("end", dealing)
-
-
-def is_needed(pages, desk, log, dealings, place):
-    line = log[place]
-    if line[0] == "end":
-        return False
-    later_pages = [later[2] for later in log[place + 1:] if later[0] == "put"]
-    return line[1] in dealings or (line[2] not in later_pages and pages[line[2]] != desk[line[2]])
 
 
 class TestNoneNeeded(unittest.TestCase):
